@@ -1,10 +1,12 @@
 """What each call refuses, in the order that holds, and what it answers."""
 
-from jurypick.words import PICKING_ALTERNATES, SWORN, SIDES
+from jurypick.words import PICKING_ALTERNATES, SWORN, OVER, SIDES, NOBODY
 
 # Of each of begin's numbers, in their order, the smallest and the greatest.
 BEGIN_BOUNDS = ((1, 60), (1, 12), (0, 4), (0, 10), (0, 10), (0, 3), (0, 1))
 LONGEST_ROW = 10
+MOST_JURORS = 12
+DIVIDED = 2
 
 
 def are_within_bounds(numbers):
@@ -15,11 +17,12 @@ def are_within_bounds(numbers):
     return True
 
 
+def are_zeros_and_ones(numbers):
+    return all([number in (0, 1) for number in numbers])
+
+
 def is_row_of_turns(row):
-    for side in row:
-        if side not in SIDES:
-            return False
-    return 0 in row and 1 in row and len(row) <= LONGEST_ROW
+    return are_zeros_and_ones(row) and 0 in row and 1 in row and len(row) <= LONGEST_ROW
 
 
 def begin(picking, numbers, row):
@@ -93,3 +96,43 @@ def let(picking, who):
         return [1] + picking.standing()
     picking.lose_juror(who)
     return [2] + picking.standing()
+
+
+def agree(picking, least):
+    if least < 1 or least > MOST_JURORS:
+        return [-1]
+    if picking.phase != SWORN:
+        return [-3]
+    if least > picking.least:
+        return [-5]
+    picking.agree(least)
+    return [least]
+
+
+def verdict(picking, says):
+    if not are_zeros_and_ones(says):
+        return [-1]
+    if picking.phase != SWORN:
+        return [-3]
+    if len(says) != len(picking.jury):
+        return [-4]
+    if 0 in says and 1 in says:
+        return [DIVIDED] + picking.standing()
+    picking.end()
+    return [says[0]] + picking.standing()
+
+
+def now(picking):
+    waiting = picking.waiting()
+    first = waiting[0] if len(waiting) > 0 else NOBODY
+    return [picking.phase] + picking.standing() + [first, len(waiting), picking.least, picking.struck]
+
+
+def box(picking):
+    if picking.phase in (SWORN, OVER):
+        return [len(picking.jury)] + picking.jury + picking.alternates
+    return [len(picking.box)] + picking.box + picking.jury
+
+
+def fates(picking):
+    return [len(picking.fates)] + picking.fates

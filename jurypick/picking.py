@@ -1,9 +1,11 @@
 """The way in: answers to a list of calls about one picking."""
 
 from jurypick.calls import begin, excuse, strike, pass_turn, objection, let
+from jurypick.calls import agree, verdict, now, box, fates
 from jurypick.reader import Reader
 from jurypick.state import Picking
 from jurypick.words import BEGIN, EXCUSE, STRIKE, PASS, OBJECT, LET
+from jurypick.words import AGREE, VERDICT, NOW, BOX, FATES
 
 BEGIN_NUMBERS = 7
 
@@ -22,6 +24,16 @@ def answer_call(picking, reader):
         return objection(picking, reader.take(), reader.take())
     if call == LET:
         return let(picking, reader.take())
+    if call == AGREE:
+        return agree(picking, reader.take())
+    if call == VERDICT:
+        return verdict(picking, reader.take_row())
+    if call == NOW:
+        return now(picking)
+    if call == BOX:
+        return box(picking)
+    if call == FATES:
+        return fates(picking)
     raise KeyError(call)
 
 

@@ -31,6 +31,9 @@ class Picking:
         # Without a seat there is nobody to strike, whatever strikes are left.
         return self.passes == 2 or self.left == [0, 0] or len(self.box) == 0
 
+    def waiting(self):
+        return [who for who, fate in enumerate(self.fates) if fate == WAITS]
+
     def may_object(self):
         return self.struck != NOBODY
 
@@ -54,6 +57,7 @@ class Picking:
         self.alternates = []
         self.row = row
         self.struck = NOBODY
+        # It stays 0 until the oath, and so when the panel doesn't suffice ahead of that.
         self.least = 0
         self.open_box(PICKING_JURY, seats, strikes)
         self.end_what_is_over()
@@ -166,4 +170,10 @@ class Picking:
         self.fates[who] = LET_GO
         self.jury.remove(who)
         if len(self.jury) < self.least:
-            self.phase = OVER
+            self.end()
+
+    def agree(self, least):
+        self.least = least
+
+    def end(self):
+        self.phase = OVER

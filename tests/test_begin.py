@@ -1,9 +1,8 @@
 import unittest
 
-from talk import ask, begin, excuse, last, let, objects, passes, strike
+from talk import FARTHEST, ask, begin, excuse, last, let, objects, passes, strike
 
 REFUSED = [-1]
-FARTHEST = (-2147483648, 2147483647)
 
 
 class Answer(unittest.TestCase):

@@ -1,11 +1,6 @@
 import unittest
 
-from talk import ask, begin, excuse, last, let, passes, strike
-
-
-def sworn(**others):
-    """The jury is 0, 1, 2; the alternates are 3, 4, .., as many as are asked for."""
-    return begin(**{"strikes0": 0, "strikes1": 0, "for_alternates": 0, **others})
+from talk import ask, begin, excuse, last, let, passes, strike, sworn
 
 
 class Juror(unittest.TestCase):

@@ -1,13 +1,11 @@
 import unittest
 
-from talk import ask, begin, excuse, last, let, objects, passes, strike
+from talk import (BOX, FARTHEST, FATES, IN_PHASE, NOW, agree, ask, begin, excuse, last, let,
+                  objects, passes, strike, verdict)
 
-FARTHEST = (-2147483648, 2147483647)
 WRONG_SIDES = (-1, 2) + FARTHEST
 NO_PERSONS = (-1, 10) + FARTHEST
-SWORN = [begin(strikes0=0, strikes1=0, for_alternates=0)]
-TOO_FEW = [begin(panel=2)]
-OVER = [begin(strikes0=0, strikes1=0, alternates=0), let(0)]
+SWORN, TOO_FEW, OVER = IN_PHASE[2:]
 
 
 class Wrong(unittest.TestCase):
@@ -42,9 +40,21 @@ class Wrong(unittest.TestCase):
             self.check(objects(0, upheld))
             self.check(objects(1, upheld))
 
+    def test_no_least_there_could_be(self):
+        for least in (-1, 0, 13) + FARTHEST:
+            self.check(agree(least))
+
+    def test_neither_1_nor_0(self):
+        for word in WRONG_SIDES:
+            self.check(verdict(word))
+            self.check(verdict(0, 1, word))
+            self.check(verdict(word, 1, 1))
+            self.check(verdict(*[1] * 19, word))
+
     def test_everything_wrong(self):
         self.check(strike(2, 99))
         self.check(objects(2, 2))
+        self.check(verdict(*[2] * 20))
 
     def test_the_panel_tells_who_there_is(self):
         for panel in (1, 2, 60):
@@ -60,6 +70,10 @@ class AtTheBeginning(unittest.TestCase):
         calls = [excuse(0), strike(0, 0), let(0), passes(0), passes(1), objects(0, 0),
                  objects(1, 1)]
         self.assertEqual(ask(*calls), [[-1], [-1], [-1], [-3], [-3], [-3], [-3]])
+
+    def test_nothing_is_agreed_and_no_verdict_is_given(self):
+        calls = [agree(0), agree(1), agree(12), agree(13), verdict(), verdict(1), verdict(2)]
+        self.assertEqual(ask(*calls), [[-1], [-3], [-3], [-1], [-3], [-3], [-1]])
 
 
 class Phase(unittest.TestCase):
@@ -79,6 +93,13 @@ class Phase(unittest.TestCase):
             for who in (0, 1):
                 with self.subTest(calls=calls, who=who):
                     self.assertEqual(last(*calls, let(who)), [-3])
+
+    def test_agree_and_verdict_are_refused_in_all_phases_but_2(self):
+        for phase in (0, 1, 3, 4):
+            for call in (agree(1), agree(3), agree(4), agree(12), verdict(), verdict(1),
+                         verdict(1, 1, 1), verdict(0, 0), verdict(*[0, 1] * 10)):
+                with self.subTest(phase=phase, call=call):
+                    self.assertEqual(last(*IN_PHASE[phase], call), [-3])
 
     def test_let_of_somebody_who_is_neither_is_refused_for_the_phase_first(self):
         self.assertEqual(last(begin(), let(9)), [-3])
@@ -121,11 +142,13 @@ class NothingChanges(unittest.TestCase):
 
     refused = [excuse(-1), excuse(59), strike(2, 0), strike(0, 60), strike(0, 59),
                strike(1, 59), passes(2), objects(2, 1), objects(0, 2), let(60), let(59),
-               begin(panel=0), begin(turns=(0, 0))]
+               begin(panel=0), begin(turns=(0, 0)), agree(0), agree(12), verdict(),
+               verdict(1), verdict(0, 0, 2), verdict(0, 0, 0, 0)]
     calls = [begin(panel=60, strikes0=2, strikes1=1, for_alternates=1, alternates=2),
              strike(0, 0), objects(1, 1), passes(1), excuse(1), strike(0, 2), objects(1, 0),
              passes(1), excuse(0), strike(1, 3), objects(0, 1),
-             passes(0), strike(1, 8), excuse(7), strike(0, 9), objects(1, 0), let(4)]
+             passes(0), strike(1, 7), excuse(6), strike(0, 9), objects(1, 0), let(4),
+             agree(2), verdict(1, 1, 0), let(8), let(5), verdict(0, 0)]
 
     def test_between_all_calls(self):
         for call in self.refused:
@@ -139,9 +162,18 @@ class NothingChanges(unittest.TestCase):
                     self.assertEqual(len(answer), 1)
                     self.assertLess(answer[0], 0)
 
-    def test_most_of_those_calls_are_taken(self):
-        taken = [answer for answer in ask(*self.calls) if len(answer) == 5]
-        self.assertGreaterEqual(len(taken), 12)
+    def test_what_now_box_and_fates_tell(self):
+        told = [NOW, BOX, FATES]
+        for many in range(len(self.calls) + 1):
+            for call in self.refused:
+                with self.subTest(many=many, refused=call):
+                    answered = ask(*self.calls[:many], *told, call, *told)[many:]
+                    self.assertEqual(answered[:3], answered[4:])
+                    self.assertEqual(len(answered[3]), 1)
+                    self.assertLess(answered[3][0], 0)
+
+    def test_those_calls_are_taken(self):
+        self.assertGreaterEqual(min(answer[0] for answer in ask(*self.calls)), 0)
 
 
 if __name__ == "__main__":
